@@ -1,0 +1,1 @@
+"""A series of races scored: racetally.desk.answers is the way in."""

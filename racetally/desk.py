@@ -1,0 +1,90 @@
+"""The calls on one object, and their answers as one list of whole numbers."""
+
+from racetally.points import boat_points
+from racetally.series import RIGHT, Series, add_text, series_copy
+
+TAKE = 0
+MORE = 1
+TEXT = 2
+SIZES = 3
+
+# How many whole numbers each call without a row (text, sizes, points) has behind its own number.
+NUMBER_COUNTS = {2: 0, 3: 0, 4: 3}
+
+TOO_LONG = -2
+NO_SUCH = -4
+FAULT = -6
+TOO_MANY_RACES = -8
+
+MOST_CODES = 65536
+
+
+class Desk:
+    """The object: it holds a series; new it holds the one without a line."""
+
+    def __init__(self):
+        self.series = Series()
+
+    def take(self, codes):
+        return self.hold(Series(), codes)
+
+    def more(self, codes):
+        # The held lines are right and no later line changes that, so reading goes on behind them.
+        return self.hold(series_copy(self.series), codes)
+
+    def hold(self, series, codes):
+        """Hold the series with the text behind its own, if nothing is wrong with it."""
+        if len(series.codes) + len(codes) > MOST_CODES:
+            return [TOO_LONG]
+        why = add_text(series, codes)
+        if why != RIGHT:
+            return [FAULT, series.line_count, why]
+        self.series = series
+        return [0]
+
+    def text(self):
+        return [len(self.series.codes)] + self.series.codes
+
+    def sizes(self):
+        return [0, len(self.series.boats), len(self.series.outs), len(self.series.races)]
+
+    def points(self, r, i, k):
+        if r > len(self.series.races):
+            return [TOO_MANY_RACES]
+        if i >= len(self.series.boats) or k >= r:
+            return [NO_SUCH]
+        return [0] + list(boat_points(self.series, r, i, k))
+
+
+def call_end(calls, start):
+    """Where the call that begins at start is over."""
+    if calls[start] in (TAKE, MORE):
+        return start + 2 + calls[start + 1]
+    return start + 1 + NUMBER_COUNTS[calls[start]]
+
+
+def answer(desk, call):
+    """The answer to one call, given with its own number first."""
+    if call[0] == TAKE:
+        return desk.take(call[2:])
+    if call[0] == MORE:
+        return desk.more(call[2:])
+    if call[0] == TEXT:
+        return desk.text()
+    if call[0] == SIZES:
+        return desk.sizes()
+    return desk.points(call[1], call[2], call[3])
+
+
+def answers(calls):
+    """The answers to the calls on a new object, each with how many numbers it has before it."""
+    desk = Desk()
+    told = []
+    start = 0
+    while start < len(calls):
+        end = call_end(calls, start)
+        numbers = answer(desk, calls[start:end])
+        told.append(len(numbers))
+        told.extend(numbers)
+        start = end
+    return told
