@@ -1,16 +1,23 @@
 """The calls on one object, and their answers as one list of whole numbers."""
 
-from racetally.points import boat_points
+from racetally.points import points_by_race, told_fraction
 from racetally.series import RIGHT, Series, add_text, series_copy
+from racetally.standing import boat_score, boats_in_order, left_out, place_and_shared, who_is_before
 
 TAKE = 0
 MORE = 1
 TEXT = 2
 SIZES = 3
+POINTS = 4
+OUT = 5
+TOTAL = 6
+BEFORE = 7
+PLACE = 8
 
-# How many whole numbers each call without a row (text, sizes, points) has behind its own number.
-NUMBER_COUNTS = {2: 0, 3: 0, 4: 3}
+# How many whole numbers each call without a row, from text to order, has behind its own number.
+NUMBER_COUNTS = {2: 0, 3: 0, 4: 3, 5: 2, 6: 2, 7: 3, 8: 2, 9: 1}
 
+GRANTED = 0
 TOO_LONG = -2
 NO_SUCH = -4
 FAULT = -6
@@ -48,12 +55,54 @@ class Desk:
     def sizes(self):
         return [0, len(self.series.boats), len(self.series.outs), len(self.series.races)]
 
-    def points(self, r, i, k):
+    def refusal(self, r, boats):
+        """Why what's asked after r races of these boats is refused, or GRANTED where it isn't."""
         if r > len(self.series.races):
-            return [TOO_MANY_RACES]
-        if i >= len(self.series.boats) or k >= r:
+            return TOO_MANY_RACES
+        for boat in boats:
+            if boat >= len(self.series.boats):
+                return NO_SUCH
+        return GRANTED
+
+    def points(self, r, i, k):
+        refused = self.refusal(r, [i])
+        if refused != GRANTED:
+            return [refused]
+        if k >= r:
             return [NO_SUCH]
-        return [0] + list(boat_points(self.series, r, i, k))
+        return [0] + told_fraction(points_by_race(self.series, r, i)[k])
+
+    def out(self, r, i):
+        refused = self.refusal(r, [i])
+        if refused != GRANTED:
+            return [refused]
+        races = left_out(self.series, i, points_by_race(self.series, r, i))
+        return [len(races)] + races
+
+    def total(self, r, i):
+        refused = self.refusal(r, [i])
+        if refused != GRANTED:
+            return [refused]
+        return [0] + told_fraction(boat_score(self.series, r, i)[0])
+
+    def before(self, r, i, j):
+        refused = self.refusal(r, [i, j])
+        if refused != GRANTED:
+            return [refused]
+        return who_is_before(boat_score(self.series, r, i), boat_score(self.series, r, j))
+
+    def place(self, r, i):
+        refused = self.refusal(r, [i])
+        if refused != GRANTED:
+            return [refused]
+        return [0] + place_and_shared(self.series, r, i)
+
+    def order(self, r):
+        refused = self.refusal(r, [])
+        if refused != GRANTED:
+            return [refused]
+        boats = boats_in_order(self.series, r)
+        return [len(boats)] + boats
 
 
 def call_end(calls, start):
@@ -73,7 +122,17 @@ def answer(desk, call):
         return desk.text()
     if call[0] == SIZES:
         return desk.sizes()
-    return desk.points(call[1], call[2], call[3])
+    if call[0] == POINTS:
+        return desk.points(call[1], call[2], call[3])
+    if call[0] == OUT:
+        return desk.out(call[1], call[2])
+    if call[0] == TOTAL:
+        return desk.total(call[1], call[2])
+    if call[0] == BEFORE:
+        return desk.before(call[1], call[2], call[3])
+    if call[0] == PLACE:
+        return desk.place(call[1], call[2])
+    return desk.order(call[1])
 
 
 def answers(calls):

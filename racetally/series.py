@@ -54,7 +54,15 @@ def series_copy(series):
     return twin
 
 
+def result_word(race, boat):
+    """Whether she has place, miss, dis or avg in the race; without a line she has missed it."""
+    if boat in race.results:
+        return race.results[boat][0]
+    return "miss"
+
+
 def may_have_pen(race, boat):
+    # Asked of the lines themselves, for a miss without a line can't have a pen.
     return boat in race.results and race.results[boat][0] in ("place", "miss")
 
 

@@ -1,13 +1,26 @@
-"""take, more, text and sizes, and how calls and answers lie in their lists."""
+"""take, more, text and sizes, and how all calls and answers lie in their lists."""
 
 import unittest
 
 from racetally.desk import answers
-from tests.helper import (CANT_STAND, CLASHES, NOT_FORMED, SIZES, TEXT, ask, codes, in_pieces, more, points, take,
-                          text_of)
+from tests.helper import (CANT_STAND, CLASHES, NOT_FORMED, SIZES, TEXT, ask, before, codes, in_pieces, more, order, out,
+                          place, points, take, text_of, total)
 
 SMALL = text_of("boat a", "boat b", "out 2 1", "race", "place a 1 1", "pen a 3", "miss b", "race", "dis a", "avg b")
 FULL = 65536
+EVERY_CALL = (take(SMALL) + more("race\n") + more("x\n") + TEXT + SIZES + points(2, 0, 0) + points(9, 9, 9) + out(3, 0)
+              + out(9, 0) + total(3, 1) + total(3, 9) + before(3, 0, 1) + before(3, 0, 9) + place(3, 1) + place(9, 1)
+              + order(3) + order(9))
+
+
+class Watched(list):
+    """A list that can't be changed, not for a while either."""
+
+    def refuse(self, *given):
+        raise AssertionError("the list was changed")
+
+    __setitem__ = __delitem__ = __iadd__ = __imul__ = append = extend = insert = pop = remove = clear = refuse
+    sort = reverse = refuse
 
 
 def told_text(text):
@@ -122,6 +135,22 @@ class TextAndSizes(unittest.TestCase):
                             ("boat a\nout 1 0\nout 2 0\nout 3 0\nrace\nmiss a\nrace\n", [1, 3, 2])):
             self.assertEqual(ask(take(text), SIZES), [[0], [0] + sizes])
 
+    def test_asking_changes_nothing(self):
+        asked = [out(2, 0), total(2, 1), before(2, 1, 0), place(2, 1), order(2), points(2, 1, 1)]
+        told = ask(take(SMALL), *asked, TEXT, SIZES, *reversed(asked), TEXT, SIZES)[1:]
+        self.assertEqual(told[6:8], [told_text(SMALL), [0, 2, 1, 2]])
+        self.assertEqual(told[8:14], list(reversed(told[:6])))
+        self.assertEqual(told[14:], told[6:8])
+
+    def test_a_refusal_leaves_the_standing_as_it_was(self):
+        asked = [order(2), place(2, 0), total(2, 0), out(2, 1)]
+        first = ask(take(SMALL), *asked)[1:]
+        for refused in (take("x"), more("x"), more("race\nplace a 1 1\nx\n"), order(3), place(2, 2), total(3, 0),
+                        more("place b 1 1\n")):
+            told = ask(take(SMALL), refused, *asked)
+            self.assertLess(told[1][0], 0)
+            self.assertEqual(told[2:], first)
+
     def test_the_told_text_is_taken_as_the_same_series(self):
         asked = [SIZES, TEXT] + [points(r, i, k) for r in range(4) for i in range(3) for k in range(3)]
         first = ask(take(SMALL), *asked)
@@ -143,27 +172,41 @@ class Lists(unittest.TestCase):
         self.assertEqual(answers([2]), [1, 0])
         self.assertEqual(answers([3]), [4, 0, 0, 0, 0])
         self.assertEqual(answers([4, 0, 0, 0]), [1, -4])
+        self.assertEqual(answers([5, 0, 0]), [1, -4])
+        self.assertEqual(answers([6, 0, 0]), [1, -4])
+        self.assertEqual(answers([7, 0, 0, 0]), [1, -4])
+        self.assertEqual(answers([8, 0, 0]), [1, -4])
+        self.assertEqual(answers([9, 0]), [1, 0])
+
+    def test_the_calls_after_r_races_as_they_lie(self):
+        text = codes("boat a\nboat b\nout 2 1\nrace\nplace b 1 2\nrace\nplace a 1 1\n")
+        calls = [0, len(text)] + text + [5, 2, 0, 6, 2, 1, 7, 2, 0, 1, 8, 2, 1, 9, 2, 5, 3, 0, 6, 2, 2, 7, 2, 0, 2,
+                                         8, 3, 9, 9, 3, 9, 0, 3]
+        self.assertEqual(answers(calls), [1, 0, 2, 1, 0, 3, 0, 3, 2, 2, 1, 1, 3, 0, 2, 1, 3, 2, 0, 1, 1, -8, 1, -4,
+                                          1, -4, 1, -8, 1, -8, 3, 2, 0, 1, 4, 0, 2, 1, 2])
 
     def test_a_text_with_the_numbers_of_calls_in_it(self):
         self.assertEqual(answers([0, 3, 2, 3, 10, 2]), [3, -6, 0, 1, 1, 0])
 
     def test_the_list_is_as_it_was(self):
-        calls = take(SMALL) + more("race\n") + more("x\n") + TEXT + SIZES + points(2, 0, 0) + points(9, 9, 9)
-        before = list(calls)
-        answers(calls)
-        self.assertEqual(calls, before)
+        calls = list(EVERY_CALL)
+        first = answers(calls)
+        self.assertEqual(calls, EVERY_CALL)
+        self.assertEqual(answers(calls), first)
+        self.assertEqual(answers(Watched(calls)), first)
 
     def test_the_answer_is_a_list_of_its_own(self):
-        calls = take(SMALL) + TEXT
+        calls = list(EVERY_CALL)
         first = answers(calls)
         kept = list(first)
         first.clear()
         self.assertEqual(answers(calls), kept)
-        self.assertTrue(all(isinstance(number, int) and not isinstance(number, bool) for number in kept))
+        self.assertTrue(all(type(number) is int for number in kept))
 
     def test_nothing_is_kept_from_one_time_to_the_next(self):
-        ask(take(SMALL))
-        self.assertEqual(ask(SIZES, TEXT, more("out 1 0\n")), [[0, 0, 0, 0], [0], [-6, 0, CANT_STAND]])
+        ask(take(SMALL), order(2))
+        self.assertEqual(ask(SIZES, TEXT, more("out 1 0\n"), order(0), order(1)),
+                         [[0, 0, 0, 0], [0], [-6, 0, CANT_STAND], [0], [-8]])
 
     def test_many_calls(self):
         calls = in_pieces(long_text(FULL))

@@ -68,6 +68,7 @@ class Language(unittest.TestCase):
             self.assertIn(node.__class__.__name__, NODES, where)
             if isinstance(node, (ast.FunctionDef, ast.ClassDef)):
                 self.assertEqual(node.decorator_list, [], where)
+            if isinstance(node, ast.FunctionDef):
                 self.assertLessEqual(node.end_lineno - node.lineno + 1, 40, where)
             if isinstance(node, ast.Assign):
                 self.assertEqual(len(node.targets), 1, where)

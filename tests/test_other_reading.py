@@ -1,11 +1,11 @@
 """Made texts, told by the program and by a second reading of the document that is written otherwise."""
 
-import random
 import re
 import unittest
 from fractions import Fraction
+from functools import cache
 
-from tests.helper import SIZES, TEXT, ask, codes, more, points, take
+from tests.helper import SIZES, TEXT, Maker, ask, before, codes, more, order, out, place, points, take, text_of, total
 
 NAME = "([a-z0-9]{1,12})"
 NUMBER = "(0|[1-9][0-9]*)"
@@ -28,7 +28,7 @@ def formed(line):
             parts = list(found.groups())
             numbers = [int(part) for part in parts[len(parts) - len(limits):]]
             if all(number in limit for number, limit in zip(numbers, limits)):
-                return [word] + parts[:len(parts) - len(limits)] + numbers
+                return tuple([word] + parts[:len(parts) - len(limits)] + numbers)
     return None
 
 
@@ -67,9 +67,10 @@ def reading(text):
         before.append(line)
     if rows[-1]:
         return None, [len(rows) - 1, 1]
-    return before, None
+    return tuple(before), None
 
 
+@cache
 def plain_points(lines, r, i, k):
     """Points as Python's fractions, each race read anew; None where the race is avg."""
     boats = [row[1] for row in lines if row[0] == "boat"]
@@ -91,66 +92,70 @@ def plain_points(lines, r, i, k):
     return sum(others) / len(others) if others else worst
 
 
-def told_points(lines, r, i, k):
+def all_points(lines, r, i):
+    return [plain_points(lines, r, i, k) for k in range(r)]
+
+
+@cache
+def plain_out(lines, r, i):
+    """The races left out, taken one by one from those that may still be."""
+    name = [row[1] for row in lines if row[0] == "boat"][i]
+    race = -1
+    may_be = dict(enumerate(all_points(lines, r, i)))
+    for row in lines:
+        race += row[0] == "race"
+        if row == ("dis", name):
+            may_be.pop(race, None)
+    left = []
+    for turn in range(([0] + [row[2] for row in lines if row[0] == "out" and row[1] <= r])[-1]):
+        worst = [race for race in may_be if may_be[race] == max(may_be.values())]
+        if worst:
+            left.append(min(worst))
+            may_be.pop(min(worst))
+    return sorted(left)
+
+
+def plain_total(lines, r, i):
+    return sum(all_points(lines, r, i)) - sum(plain_points(lines, r, i, k) for k in plain_out(lines, r, i))
+
+
+@cache
+def plain_before(lines, r, i, j):
+    def kept(boat):
+        return sorted(plain_points(lines, r, boat, k) for k in set(range(r)) - set(plain_out(lines, r, boat)))
+
+    pairs = [(1, plain_total(lines, r, i), plain_total(lines, r, j))]
+    pairs += [(2, one, other) for one, other in zip(kept(i), kept(j))]
+    pairs += [(3, plain_points(lines, r, i, k), plain_points(lines, r, j, k)) for k in reversed(range(r))]
+    for rule, one, other in pairs:
+        if one != other:
+            return [1 if one < other else 2, rule]
+    return [0, 0]
+
+
+def plain_place(lines, r, i):
+    met = [plain_before(lines, r, i, j)[0] for j in range(sum(row[0] == "boat" for row in lines))]
+    return [1 + met.count(2), met.count(0)]
+
+
+def told(lines, call):
+    """What the document asks as the answer to a call from points to order."""
+    boats = sum(row[0] == "boat" for row in lines)
+    sort, r, rest = call[0], call[1], call[2:]
     if r > sum(row[0] == "race" for row in lines):
         return [-8]
-    if i >= sum(row[0] == "boat" for row in lines) or k >= r:
+    if sort == 9:
+        return [boats] + sorted(range(boats), key=lambda boat: (plain_place(lines, r, boat), boat))
+    if any(boat >= boats for boat in (rest[:1] if sort == 4 else rest)) or (sort == 4 and rest[1] >= r):
         return [-4]
-    own = plain_points(lines, r, i, k)
+    if sort == 5:
+        return [len(plain_out(lines, r, *rest))] + plain_out(lines, r, *rest)
+    if sort == 7:
+        return plain_before(lines, r, *rest)
+    if sort == 8:
+        return [0] + plain_place(lines, r, *rest)
+    own = Fraction(plain_points(lines, r, *rest) if sort == 4 else plain_total(lines, r, *rest))
     return [0, own.numerator, own.denominator]
-
-
-class Maker:
-    """Made texts that mostly go right, with a slip here and there."""
-
-    def __init__(self, seed):
-        self.chance = random.Random(seed)
-
-    def series(self):
-        count = self.chance.randint(1, 6)
-        lines = [f"boat b{number}" for number in range(count)]
-        if self.chance.random() < 0.6:
-            lines += [f"out {r} {r // 2}" for r in sorted(self.chance.sample(range(1, 33), 3))]
-        for race in range(self.chance.randint(0, 6)):
-            lines.append("race")
-            for number in self.chance.sample(range(count), self.chance.randint(0, count)):
-                lines += self.result(f"b{number}", count)
-        return lines
-
-    def result(self, name, count):
-        word = self.chance.choice(["place", "place", "miss", "dis", "avg"])
-        if word != "place":
-            own = [f"{word} {name}"]
-        else:
-            place = self.chance.randint(1, count)
-            own = [f"place {name} {place} {self.chance.randint(1, count - place + 1)}"]
-        if word in ("place", "miss") and self.chance.random() < 0.4:
-            own.append(f"pen {name} {self.chance.choice([1, 2, 3, 50, 99])}")
-        return own
-
-    def slip(self, lines):
-        """The text of the lines, some of them moved, doubled, new, or with a sign changed."""
-        chance = self.chance
-        lines = list(lines)
-        for turn in range(chance.choice([0, 0, 1, 1, 2])):
-            at = chance.randrange(len(lines) + 1)
-            sort = chance.randrange(4)
-            if sort == 0:
-                lines.insert(at, chance.choice(lines))
-            elif sort == 1 and at < len(lines):
-                lines.insert(chance.randrange(len(lines)), lines.pop(at))
-            elif sort == 2:
-                name = chance.choice(["b0", "b1", "b9", "a" * 12, "a" * 13, ""])
-                lines.insert(at, chance.choice([
-                    f"boat {name}", f"out {chance.randint(0, 34)} {chance.randint(0, 33)}", "race", f"miss {name}",
-                    f"dis {name}", f"avg {name}", f"pen {name} {chance.randint(0, 101)}",
-                    f"place {name} {chance.randint(0, 8)} {chance.randint(0, 8)}"]))
-            elif at < len(lines):
-                cut = chance.randrange(len(lines[at]) + 1)
-                sign = chance.choice([" ", "0", "1", "a", "A", "\n", "\t", "\xff", ""])
-                lines[at] = lines[at][:cut] + sign + lines[at][cut + chance.randrange(2):]
-        text = "".join(line + "\n" for line in lines)
-        return text[:-1] if chance.random() < 0.03 else text
 
 
 class OtherReading(unittest.TestCase):
@@ -173,19 +178,39 @@ class OtherReading(unittest.TestCase):
                 expected.append([len("".join(held))] + codes("".join(held)))
                 expected.append([0] + [sum(row[0] == word for row in kept) for word in ("boat", "out", "race")])
                 for turn in range(6):
-                    asked = [maker.chance.randint(0, 7), maker.chance.randint(0, 6), maker.chance.randint(0, 6)]
-                    calls.append(points(*asked))
-                    expected.append(told_points(kept, *asked))
+                    r, i, j = maker.chance.randint(0, 7), maker.chance.randint(0, 6), maker.chance.randint(0, 6)
+                    asked = maker.chance.choice([points(r, i, j), out(r, i), total(r, i), before(r, i, j), place(r, i),
+                                                 order(r)])
+                    calls.append(asked)
+                    expected.append(told(kept, asked))
             self.assertEqual(ask(*calls), expected, (seed, text))
         self.assertEqual(sorted(map(str, met)), ["(1,)", "(3,)", "(4,)", "right"])
 
-    def test_every_point_of_made_series(self):
-        for seed in range(300):
-            text = "".join(line + "\n" for line in Maker(seed).series())
+    def every_call(self, seed, *made):
+        for text in (text_of(*Maker(seed).series()), text_of(*Maker(seed).close_series())):
             lines = reading(text)[0]
-            asked = [(r, i, k) for r in range(7) for i in range(6) for k in range(7)][:290]
-            self.assertEqual(ask(take(text), *[points(*numbers) for numbers in asked]),
-                             [[0]] + [told_points(lines, *numbers) for numbers in asked], (seed, text))
+            self.assertEqual(ask(take(text), *made), [[0]] + [told(lines, call) for call in made], (seed, text))
+
+    def test_points_of_made_series(self):
+        for seed in range(300):
+            self.every_call(seed, *[points(r, i, k) for r in range(7) for i in range(6) for k in range(7)][:290])
+
+    def test_out_and_total_of_made_series(self):
+        for seed in range(300):
+            self.every_call(seed, *[call(r, i) for r in range(8) for i in range(7) for call in (out, total)])
+
+    def test_standing_of_made_series(self):
+        for seed in range(150):
+            self.every_call(seed, *[before(r, i, j) for r in range(2, 7) for i in range(5) for j in range(i + 1)])
+            self.every_call(seed, *[order(r) for r in range(8)], *[place(r, i) for r in range(3, 7) for i in range(6)])
+
+    def test_made_series_meet_every_rule(self):
+        met = {}
+        for seed in range(150):
+            text = text_of(*Maker(seed).close_series())
+            for call in [before(r, i, i + 1) for r in range(7) for i in range(5)]:
+                met[tuple(ask(take(text), call)[1])] = True
+        self.assertEqual(sorted(met), [(-8,), (-4,), (0, 0), (1, 1), (1, 2), (1, 3), (2, 1), (2, 2), (2, 3)])
 
 
 if __name__ == "__main__":
