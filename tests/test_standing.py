@@ -193,8 +193,10 @@ class PlaceAndOrder(unittest.TestCase):
         self.assertEqual(self.rows(FOUR + races((4, 3, 2, 1)), 0, 4), ([4, 0, 1, 2, 3], [(1, 4)] * 4))
 
     def test_one_race(self):
-        self.assertEqual(self.rows(FOUR + races((4, 3, 2, 1)), 1, 4), ([4, 3, 2, 1, 0], [(4, 1), (3, 1), (2, 1), (1, 1)]))
-        self.assertEqual(self.rows(FOUR + races((2, 4, 1, 3)), 1, 4), ([4, 2, 0, 3, 1], [(2, 1), (4, 1), (1, 1), (3, 1)]))
+        self.assertEqual(self.rows(FOUR + races((4, 3, 2, 1)), 1, 4),
+                         ([4, 3, 2, 1, 0], [(4, 1), (3, 1), (2, 1), (1, 1)]))
+        self.assertEqual(self.rows(FOUR + races((2, 4, 1, 3)), 1, 4),
+                         ([4, 2, 0, 3, 1], [(2, 1), (4, 1), (1, 1), (3, 1)]))
 
     def test_tied_ones_stand_by_number(self):
         lines = FOUR + races(((3, 2), (1, 2), (3, 2), (1, 2)))
@@ -222,7 +224,8 @@ class PlaceAndOrder(unittest.TestCase):
     def test_64_boats(self):
         boats = tuple(f"boat b{number}" for number in range(64))
         lines = boats + ("race",) + tuple(f"place b{number} {64 - number} 1" for number in range(64))
-        self.assertEqual(self.rows(lines, 1, 64), ([64] + list(range(63, -1, -1)), [(64 - boat, 1) for boat in range(64)]))
+        self.assertEqual(self.rows(lines, 1, 64),
+                         ([64] + list(range(63, -1, -1)), [(64 - boat, 1) for boat in range(64)]))
         self.assertEqual(self.rows(lines, 0, 64), ([64] + list(range(64)), [(1, 64)] * 64))
 
     def test_pairs_of_tied_boats(self):
